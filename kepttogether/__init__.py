@@ -1,0 +1,1 @@
+"""Kepttogether: rows in which sets stay together."""
