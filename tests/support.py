@@ -193,3 +193,117 @@ def systems_and_sides():
     for system in LARGE_SYSTEMS:
         found += [(system, sides) for sides in drawn_sides(system, 3, "large sides")]
     return found
+
+
+def leads(chosen, before, after):
+    """Point 30: whether a step by the set leads from the one pair to the other."""
+    (a, b), (c, d) = before, after
+    first = a == c and a not in chosen and b != d and b in chosen and d in chosen
+    second = b == d and b not in chosen and a != c and a in chosen and c in chosen
+    return first or second
+
+
+def linked_pairs(system):
+    """Point 31: for each pair the set of all pairs linked to it, by joining what one step joins until it stays."""
+    size, sets = system
+    group = {pair: {pair} for pair in pairs(size)}
+    for before in pairs(size):
+        for after in pairs(size):
+            if group[before] is not group[after] and any(leads(chosen, before, after) for chosen in sets):
+                group[before] |= group[after]
+                for pair in group[after]:
+                    group[pair] = group[before]
+    return group
+
+
+def fewest_steps(system, pair):
+    """For each pair linked to the pair the least number of steps to it, by trying all pairs again and again."""
+    size, sets = system
+    many = {pair: 0}
+    for number in range(1, size * size):
+        for after in pairs(size):
+            if after not in many and any(
+                before in many and many[before] == number - 1 and any(leads(chosen, before, after) for chosen in sets)
+                for before in pairs(size)
+            ):
+                many[after] = number
+    return many
+
+
+def is_pair_by_words(value, size):
+    return (
+        type(value) is tuple and len(value) == 2 and all(is_number(x, 0, size - 1) for x in value)
+        and value[0] != value[1]
+    )
+
+
+def is_chain_by_words(system, value):
+    size, sets = system
+    return (
+        type(value) is tuple and len(value) == 2 and is_pair_by_words(value[0], size)
+        and type(value[1]) is tuple and len(value[1]) <= 100
+        and all(
+            type(step) is tuple and len(step) == 2 and is_number(step[0], 0, len(sets) - 1)
+            and is_pair_by_words(step[1], size)
+            for step in value[1]
+        )
+    )
+
+
+def ends(chain):
+    """The pairs at which a chain begins and ends."""
+    return chain[0], ([chain[0]] + [pair for _, pair in chain[1]])[-1]
+
+
+def is_right_chain(system, value):
+    """Points 41 and 42: a chain all of whose steps are steps by their sets."""
+    if not is_chain_by_words(system, value):
+        return False
+    at = [value[0]] + [pair for _, pair in value[1]]
+    return all(leads(system[1][index], at[place], after) for place, (index, after) in enumerate(value[1]))
+
+
+def drawn_chain(system, count, draw, right):
+    """A chain of so many steps: right ones, where that is asked and there are any, or whatever steps."""
+    size, sets = system
+    at = draw.choice(pairs(size))
+    begin, steps = at, []
+    while len(steps) < count:
+        options = [
+            (index, after) for index, chosen in enumerate(sets) for after in pairs(size)
+            if not right or leads(chosen, at, after)
+        ]
+        if not options:
+            break
+        steps.append(draw.choice(options))
+        at = steps[-1][1]
+    return begin, tuple(steps)
+
+
+def has(row, pair):
+    """Point 6: whether the row has the pair."""
+    return row.index(pair[0]) < row.index(pair[1])
+
+
+def all_tournaments(size):
+    found = product(*[((x, y), (y, x)) for x, y in combinations(range(size), 2)])
+    return [tuple(sorted(chosen)) for chosen in found]
+
+
+def drawn_tournaments(size, count, seed):
+    draw = Random(seed)
+    return [
+        tuple(sorted(draw.choice([(x, y), (y, x)]) for x, y in combinations(range(size), 2))) for _ in range(count)
+    ]
+
+
+def tournament_of_row(row):
+    return tuple(sorted(combinations(row, 2)))
+
+
+def is_tournament_by_words(size, value):
+    return (
+        type(value) is tuple and all(is_pair_by_words(pair, size) for pair in value)
+        and list(value) == sorted(set(value))
+        and all(((x, y) in value) != ((y, x) in value) for x, y in combinations(range(size), 2))
+    )

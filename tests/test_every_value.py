@@ -4,9 +4,10 @@ import unittest
 
 from kepttogether.sides import contradiction, circle, is_sides, shows_circle, shows_contradiction
 from kepttogether.systems import is_row, is_system
+from judging import JudgeChecks
 from support import (
     EDGE_SYSTEMS, LARGE_SYSTEMS, is_number, is_row_by_words, is_sides_by_words, is_system_by_words, nested, pairs,
-    set_requires, sets_requiring, spoiled, values_of_all_kinds,
+    set_requires, sets_requiring,
 )
 
 ROUND = (3, ((0,), (1,), (2,)))
@@ -34,23 +35,7 @@ def shows_circle_by_words(system, sides, value):
     )
 
 
-class EveryValue(unittest.TestCase):
-    def check(self, told, expected, value):
-        """Compare both answers for the value, and look that the value stays as it is."""
-        before = repr(value)
-        answer = told(value)
-        self.assertIs(type(answer), bool, before)
-        self.assertIs(answer, expected(value), before)
-        self.assertEqual(repr(value), before)
-
-    def check_all(self, told, expected, good):
-        for value in values_of_all_kinds():
-            self.check(told, expected, value)
-        for one in good:
-            self.assertIs(told(one), True, one)
-            for value in spoiled(one):
-                self.check(told, expected, value)
-
+class EveryValue(JudgeChecks, unittest.TestCase):
     def test_is_system(self):
         self.check_all(is_system, is_system_by_words, EDGE_SYSTEMS + LARGE_SYSTEMS[:6])
 

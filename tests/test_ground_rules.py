@@ -6,14 +6,25 @@ from copy import deepcopy
 from importlib import import_module
 
 from kepttogether import errors
+from kepttogether.chains import (
+    accepts_chain, accepts_refutation, end_of, fault, joined, mirrored, refutation, shortened, shortest, turned,
+)
+from kepttogether.deciding import tournament_of
 from kepttogether.errors import BadValue, NotPossible, TextError, TogetherError, TooLarge
+from kepttogether.links import (
+    are_linked, class_of, contradictory_pair, count_sides, is_contradictory, listed_classes, steps_from,
+)
 from kepttogether.sides import (
     circle, contradiction, is_sides, required, respects, shows_circle, shows_contradiction, sides_of,
 )
 from kepttogether.systems import (
     derived, gaps, is_row, is_system, keeps, overlap, part, part_of_row, renamed, renamed_row, spans, together,
 )
-from support import EDGE_SYSTEMS, LARGE_SYSTEMS, drawn_sides, keeping_rows, systems_and_sides
+from kepttogether.tournaments import components, is_closed, is_tournament, row_of, smallest_closed
+from support import (
+    EDGE_SYSTEMS, LARGE_SYSTEMS, all_tournaments, are_consistent, drawn_sides, drawn_tournaments, keeping_rows,
+    linked_pairs, pairs, systems_and_sides,
+)
 
 INTERFACE = {
     "systems": {
@@ -27,6 +38,23 @@ INTERFACE = {
         "circle": ["system", "sides"], "respects": ["system", "sides", "row"], "sides_of": ["system", "row"],
         "shows_contradiction": ["system", "sides", "value"], "shows_circle": ["system", "sides", "value"],
     },
+    "deciding": {"tournament_of": ["system", "sides"]},
+    "links": {
+        "steps_from": ["system", "pair"], "class_of": ["system", "pair"], "are_linked": ["system", "pair", "other"],
+        "contradictory_pair": ["system"], "is_contradictory": ["system"], "listed_classes": ["system"],
+        "count_sides": ["system"],
+    },
+    "chains": {
+        "fault": ["system", "chain"], "end_of": ["system", "chain"],
+        "accepts_chain": ["system", "pair", "other", "value"], "accepts_refutation": ["system", "value"],
+        "shortest": ["system", "pair", "other"], "refutation": ["system"], "turned": ["system", "chain"],
+        "mirrored": ["system", "chain"], "joined": ["system", "first", "second"], "shortened": ["system", "chain"],
+    },
+    "tournaments": {
+        "is_tournament": ["size", "value"], "is_closed": ["size", "tournament", "chosen"],
+        "smallest_closed": ["size", "tournament", "chosen"], "components": ["size", "tournament"],
+        "row_of": ["size", "tournament"],
+    },
 }
 ERRORS = {
     "BadValue": ["name"], "TooLarge": ["what"], "NotPossible": ["why"], "TextError": ["column", "words"],
@@ -37,7 +65,11 @@ AGAINST = ((0, -1, 1), (1, 0, -1), (1, 1, 0))
 
 
 def calls():
-    """Calls of all functions with right arguments, each with the kind of its result."""
+    """Calls of all functions with right arguments, each with the kind of its result (None where that is None)."""
+    return calls_of_systems() + calls_of_links() + calls_of_chains() + calls_of_tournaments()
+
+
+def calls_of_systems():
     found = []
     for system in EDGE_SYSTEMS + LARGE_SYSTEMS:
         row, order = tuple(range(system[0]))[::-1], tuple(range(1, system[0])) + (0,)
@@ -57,20 +89,83 @@ def calls():
     return found
 
 
+def is_no_way_back(system):
+    """Whether no pair is linked to its reverse."""
+    return not any(pair[::-1] in linked for pair, linked in linked_pairs(system).items())
+
+
+def calls_of_links():
+    found = []
+    for system in EDGE_SYSTEMS + LARGE_SYSTEMS[:9]:
+        for pair in pairs(system[0])[::7]:
+            found += [(steps_from, (system, pair), list), (class_of, (system, pair), tuple)]
+            found += [(are_linked, (system, pair, pair[::-1]), bool)]
+        possible = is_no_way_back(system)
+        found += [(contradictory_pair, (system,), None if possible else tuple), (count_sides, (system,), int)]
+        found += [(is_contradictory, (system,), bool), (listed_classes, (system,), list if possible else None)]
+        found += [
+            (tournament_of, (system, sides), tuple if are_consistent(system, sides) else None)
+            for sides in drawn_sides(system, 4, "tournaments")
+        ]
+    return found
+
+
+def calls_of_chains():
+    found = []
+    for system in [system for system in EDGE_SYSTEMS + LARGE_SYSTEMS[:9] if system[0] > 1]:
+        linked = linked_pairs(system)
+        for pair, other in zip(pairs(system[0])[::3], pairs(system[0])[::2]):
+            found += [(shortest, (system, pair, other), tuple if other in linked[pair] else None)]
+        chain = shortest(system, (0, 1), max(linked[(0, 1)]))
+        found += [(function, (system, chain), tuple) for function in (end_of, turned, mirrored, shortened)]
+        found += [(joined, (system, chain, turned(system, chain)), tuple), (fault, (system, chain), None)]
+        found += [(accepts_chain, (system, (0, 1), (1, 0), value), bool) for value in (chain, [[0, 1], [chain]])]
+        found += [(accepts_refutation, (system, value), bool) for value in (chain, [[0, 1], [chain]])]
+        found += [(refutation, (system,), None if is_no_way_back(system) else tuple)]
+        if system[1]:
+            found += [(fault, (system, ((0, 1), ((0, (0, 1)),))), tuple)]
+    return found
+
+
+def calls_of_tournaments():
+    found = []
+    for size in range(1, 9):
+        for tournament in all_tournaments(size)[:3] if size < 4 else drawn_tournaments(size, 3, "calls"):
+            chosen = tuple(range(0, size, 2))
+            found += [(is_tournament, (size, value), bool) for value in (tournament, list(tournament), [[tournament]])]
+            found += [(is_closed, (size, tournament, chosen), bool), (components, (size, tournament), tuple)]
+            found += [(smallest_closed, (size, tournament, chosen), tuple), (row_of, (size, tournament), tuple)]
+    return found
+
+
 class Results(unittest.TestCase):
-    def check_kinds(self, value, inside):
-        """Tuples of tuples, integers and None, but no list, and no True or False in a tuple."""
+    def check_kinds(self, value):
+        """Tuples of tuples, integers, strings and None; no list, and no True or False in a tuple."""
         if type(value) is tuple:
             for item in value:
-                self.check_kinds(item, True)
-        elif inside:
-            self.assertIn(type(value), (int, type(None)))
+                self.check_kinds(item)
+        else:
+            self.assertIn(type(value), (int, str, type(None)))
 
     def test_kinds_of_results(self):
         for function, given, kind in calls():
             result = function(*given)
-            self.assertIs(type(result), kind or type(None), function.__name__)
-            self.check_kinds(result, False)
+            self.assertIs(type(result), kind or type(None), (function.__name__, given))
+            if kind in (tuple, list):
+                self.check_kinds(tuple(result))
+
+    def test_all_functions_are_called(self):
+        called = {function.__name__ for function, _, _ in calls()}
+        self.assertEqual(called, {name for functions in INTERFACE.values() for name in functions})
+
+    def test_a_returned_list_is_not_used_again(self):
+        for function, given, kind in calls():
+            if kind is list:
+                found = function(*given)
+                kept = list(found)
+                found.extend([None, 0])
+                found.reverse()
+                self.assertEqual(function(*given), kept, (function.__name__, given))
 
     def test_equal_calls_return_equal_results(self):
         first = [function(*given) for function, given, _ in calls()]
