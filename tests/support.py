@@ -3,6 +3,7 @@
 Everything here is written apart from the package, so that a fault of it does not hide itself.
 """
 
+from functools import lru_cache
 from itertools import combinations, permutations, product
 from random import Random
 
@@ -216,6 +217,7 @@ def linked_pairs(system):
     return group
 
 
+@lru_cache(None)
 def fewest_steps(system, pair):
     """For each pair linked to the pair the least number of steps to it, by trying all pairs again and again."""
     size, sets = system

@@ -69,8 +69,8 @@ INTERFACE_CHAINS = """
 True
 """
 
-# From the example under kepttogether/solving.py: all of its calls of kepttogether.tournaments.
-INTERFACE_TOURNAMENTS = """
+INTERFACE_SOLVING = """
+>>> from kepttogether.solving import accepts, row_of_sides, solve
 >>> from kepttogether.tournaments import components, is_closed, row_of, smallest_closed
 >>> about = ((0, 1), (1, 2), (2, 0))
 >>> components(3, about), row_of(3, about), smallest_closed(3, about, (0, 2))
@@ -78,6 +78,41 @@ INTERFACE_TOURNAMENTS = """
 >>> ladder = ((0, 2), (0, 3), (1, 0), (1, 2), (1, 3), (2, 3))
 >>> components(4, ladder), row_of(4, ladder), is_closed(4, ladder, (0, 1)), is_closed(4, ladder, (0, 2))
 (((1,), (0,), (2,), (3,)), (1, 0, 2, 3), True, True)
+>>> row_of_sides((4, ((2, 3),)), ((-1, 1, 0, 0),)), row_of_sides((3, ((0,), (1,), (2,))), ((0, -1, 1), (1, 0, -1), (-1, 1, 0)))
+((1, 2, 3, 0), (0, 1, 2))
+>>> solve((3, ((0, 1), (1, 2)))), solve((3, ((0, 1), (1, 2), (0, 2))))[0]
+(('row', (0, 1, 2)), 'chain')
+>>> accepts((3, ((0, 1), (1, 2))), ("row", (2, 1, 0))), accepts((3, ((0, 1), (1, 2))), ("row", (0, 2, 1)))
+(True, False)
+"""
+
+INTERFACE_REDUCING = """
+>>> from kepttogether.reducing import accepts_tree, grounds_for, reduced, tree_of
+>>> from kepttogether.trees import canonical, count_rows, fits, is_row_of, told_sets, tree_text
+>>> system = (5, ((0, 1, 2), (2, 3, 4)))
+>>> tree_of(system)
+('turn', (('any', (0, 1)), 2, ('any', (3, 4))))
+>>> tree_text(tree_of(system)), count_rows(tree_of(system)), is_row_of(tree_of(system), (4, 3, 2, 0, 1))
+('[(0 1) 2 (3 4)]', 8, True)
+>>> told_sets(tree_of(system)), fits(tree_of(system), (0, 1)), fits(tree_of(system), (1, 2))
+([(0, 1), (0, 1, 2), (2, 3, 4), (3, 4)], True, False)
+>>> canonical(("turn", (("any", (4, 3)), 2, ("any", (1, 0))))) == tree_of(system)
+True
+>>> reduced(("any", (0, 1, 2, 3, 4)), (1, 3)), tree_of((3, ((0, 1), (0, 2), (1, 2))))
+(('any', (0, ('any', (1, 3)), 2, 4)), None)
+>>> accepts_tree(system, tree_of(system), grounds_for(system)), accepts_tree(system, ("any", (0, 1, 2, 3, 4)), ())
+(True, False)
+"""
+
+INTERFACE_LISTING = """
+>>> from kepttogether.listing import count_beginning, count_kept, index_of_kept, kept_rows, nth_kept
+>>> system = (5, ((0, 1, 2), (2, 3, 4)))
+>>> count_kept(system), count_beginning(system, (3, 4)), count_beginning(system, (2,))
+(8, 2, 0)
+>>> nth_kept(system, 2), index_of_kept(system, (4, 3, 2, 1, 0)), index_of_kept(system, (2, 0, 1, 3, 4)) is None
+((1, 0, 2, 3, 4), 7, True)
+>>> kept_rows(system, (0,), 1, 5)
+[(0, 1, 2, 4, 3)]
 """
 
 # Point 18: the system of five elements with the sets 0 1 2 and 2 3 has the derived sets 2, 0 1, 3,
@@ -132,9 +167,12 @@ POINT_50 = """
 (False, False)
 """
 
-# Point 62, its first sentence: three elements that precede one another in a circle form one component, and
-# each of them is a block. (So the row has them in the order of the elements, whichever way the circle goes.)
-POINT_62_FIRST = """
+# Point 62: three elements that precede one another in a circle form one component, and each of them is a
+# block. (So the row has them in the order of the elements, whichever way the circle goes.) With the sets
+# {0, 1}, {1, 2} and {0, 2} of three elements there is no row, and a chain of three steps shows it.
+POINT_62 = """
+>>> from itertools import permutations
+>>> from kepttogether.solving import accepts, solve
 >>> from kepttogether.tournaments import components, row_of, smallest_closed
 >>> one, other = ((0, 1), (1, 2), (2, 0)), ((0, 2), (1, 0), (2, 1))
 >>> components(3, one), components(3, other)
@@ -143,6 +181,35 @@ POINT_62_FIRST = """
 True
 >>> row_of(3, one), row_of(3, other)
 ((0, 1, 2), (0, 1, 2))
+>>> system = (3, ((0, 1), (1, 2), (0, 2)))
+>>> word, (pair, steps) = solve(system)
+>>> word, len(steps), accepts(system, (word, (pair, steps)))
+('chain', 3, True)
+>>> any(accepts(system, ("row", row)) for row in permutations(range(3)))
+False
+"""
+
+# Point 73: of five elements, 0, 1, 2 have to stay together, and 2, 3, 4. Then 2 stands in the middle, 0 and 1
+# in any order on one side of it, and 3 and 4 on the other.
+POINT_73 = """
+>>> from itertools import permutations
+>>> from kepttogether.reducing import tree_of
+>>> from kepttogether.trees import is_row_of
+>>> tree = tree_of((5, ((0, 1, 2), (2, 3, 4))))
+>>> tree
+('turn', (('any', (0, 1)), 2, ('any', (3, 4))))
+>>> found = [row for row in permutations(range(5)) if is_row_of(tree, row)]
+>>> {row[2] for row in found}, sorted({tuple(sorted(row[:2])) for row in found}), len(found)
+({2}, [(0, 1), (3, 4)], 8)
+"""
+
+# Point 81: the system of point 73 has eight keeping rows; the first one is 0, 1, 2, 3, 4, and the last one
+# 4, 3, 2, 1, 0.
+POINT_81 = """
+>>> from kepttogether.listing import count_kept, nth_kept
+>>> system = (5, ((0, 1, 2), (2, 3, 4)))
+>>> count_kept(system), nth_kept(system, 0), nth_kept(system, 7)
+(8, (0, 1, 2, 3, 4), (4, 3, 2, 1, 0))
 """
 
 
@@ -166,8 +233,14 @@ class Examples(unittest.TestCase):
     def test_the_interface_of_chains(self):
         self.check(INTERFACE_CHAINS, 9)
 
-    def test_the_interface_of_tournaments(self):
-        self.check(INTERFACE_TOURNAMENTS, 5)
+    def test_the_interface_of_tournaments_and_solving(self):
+        self.check(INTERFACE_SOLVING, 9)
+
+    def test_the_interface_of_trees_and_reducing(self):
+        self.check(INTERFACE_REDUCING, 9)
+
+    def test_the_interface_of_listing(self):
+        self.check(INTERFACE_LISTING, 5)
 
     def test_point_18(self):
         self.check(POINT_18, 4)
@@ -181,8 +254,14 @@ class Examples(unittest.TestCase):
     def test_point_50(self):
         self.check(POINT_50, 7)
 
-    def test_point_62_its_first_sentence(self):
-        self.check(POINT_62_FIRST, 5)
+    def test_point_62(self):
+        self.check(POINT_62, 11)
+
+    def test_point_73(self):
+        self.check(POINT_73, 7)
+
+    def test_point_81(self):
+        self.check(POINT_81, 3)
 
 
 if __name__ == "__main__":

@@ -14,13 +14,18 @@ from kepttogether.errors import BadValue, NotPossible, TextError, TogetherError,
 from kepttogether.links import (
     are_linked, class_of, contradictory_pair, count_sides, is_contradictory, listed_classes, steps_from,
 )
+from kepttogether.listing import count_beginning, count_kept, index_of_kept, kept_rows, nth_kept
+from kepttogether.reducing import accepts_tree, grounds_for, reduced, tree_of
 from kepttogether.sides import (
     circle, contradiction, is_sides, required, respects, shows_circle, shows_contradiction, sides_of,
 )
+from kepttogether.solving import accepts, row_of_sides, solve
 from kepttogether.systems import (
     derived, gaps, is_row, is_system, keeps, overlap, part, part_of_row, renamed, renamed_row, spans, together,
 )
 from kepttogether.tournaments import components, is_closed, is_tournament, row_of, smallest_closed
+from kepttogether.trees import canonical, count_rows, fits, is_row_of, is_tree, told_sets, tree_text
+from growing import all_trees, drawn_trees, leaves
 from support import (
     EDGE_SYSTEMS, LARGE_SYSTEMS, all_tournaments, are_consistent, drawn_sides, drawn_tournaments, keeping_rows,
     linked_pairs, pairs, systems_and_sides,
@@ -55,6 +60,19 @@ INTERFACE = {
         "smallest_closed": ["size", "tournament", "chosen"], "components": ["size", "tournament"],
         "row_of": ["size", "tournament"],
     },
+    "solving": {"row_of_sides": ["system", "sides"], "solve": ["system"], "accepts": ["system", "answer"]},
+    "trees": {
+        "is_tree": ["value", "size"], "count_rows": ["tree"], "is_row_of": ["tree", "row"], "canonical": ["tree"],
+        "fits": ["tree", "chosen"], "told_sets": ["tree"], "tree_text": ["tree"],
+    },
+    "reducing": {
+        "reduced": ["tree", "chosen"], "tree_of": ["system"], "grounds_for": ["system"],
+        "accepts_tree": ["system", "tree", "grounds"],
+    },
+    "listing": {
+        "count_kept": ["system"], "count_beginning": ["system", "beginning"], "nth_kept": ["system", "index"],
+        "index_of_kept": ["system", "value"], "kept_rows": ["system", "beginning", "index", "many"],
+    },
 }
 ERRORS = {
     "BadValue": ["name"], "TooLarge": ["what"], "NotPossible": ["why"], "TextError": ["column", "words"],
@@ -66,7 +84,8 @@ AGAINST = ((0, -1, 1), (1, 0, -1), (1, 1, 0))
 
 def calls():
     """Calls of all functions with right arguments, each with the kind of its result (None where that is None)."""
-    return calls_of_systems() + calls_of_links() + calls_of_chains() + calls_of_tournaments()
+    found = calls_of_systems() + calls_of_links() + calls_of_chains() + calls_of_tournaments()
+    return found + calls_of_solving() + calls_of_trees() + calls_of_listing()
 
 
 def calls_of_systems():
@@ -138,6 +157,53 @@ def calls_of_tournaments():
     return found
 
 
+def calls_of_solving():
+    found = []
+    for system in EDGE_SYSTEMS + LARGE_SYSTEMS[:9]:
+        possible = is_no_way_back(system)
+        found += [(solve, (system,), tuple)]
+        found += [(accepts, (system, answer), bool) for answer in (solve(system), ["row", [0]], ("row", [0]))]
+        found += [(grounds_for, (system,), tuple if possible else None)]
+        # A tree of one element is a number.
+        found += [(tree_of, (system,), (tuple if system[0] > 1 else int) if possible else None)]
+        trees = (tree_of(system), [tree_of(system)], ["any", [0, 1]])
+        found += [(accepts_tree, (system, tree, grounds_for(system)), bool) for tree in trees]
+        found += [(accepts_tree, (system, trees[0], grounds), bool) for grounds in ([], [[], []], ((), []), None)]
+        found += [
+            (row_of_sides, (system, sides), tuple if are_consistent(system, sides) else None)
+            for sides in drawn_sides(system, 4, "rows of sides")
+        ]
+    return found
+
+
+def calls_of_trees():
+    found = []
+    trees = [tree for size in (1, 2, 3) for tree in all_trees(size)] + drawn_trees(5, 4, "calls") + drawn_trees(8, 4, "calls")
+    for tree in trees:
+        size = len(leaves(tree))
+        row, kind = tuple(range(size)), tuple if size > 1 else int
+        found += [(is_tree, (value, size), bool) for value in (tree, [tree], ["any", [0, 1]], ("any", [0, [1]]))]
+        found += [(count_rows, (tree,), int), (is_row_of, (tree, row), bool), (canonical, (tree,), kind)]
+        found += [(fits, (tree, chosen), bool) for chosen in ((), row[::2], row)]
+        found += [(told_sets, (tree,), list), (tree_text, (tree,), str), (reduced, (tree, row), kind)]
+    found += [(reduced, (("any", (0, 1, 2)), (0, 2)), tuple), (reduced, (("turn", (0, 1, 2)), (0, 2)), None)]
+    return found
+
+
+def calls_of_listing():
+    found = []
+    for system in EDGE_SYSTEMS + LARGE_SYSTEMS[:9]:
+        possible = is_no_way_back(system)
+        found += [(count_kept, (system,), int), (count_beginning, (system, ()), int)]
+        found += [(count_beginning, (system, (system[0] - 1,)), int), (kept_rows, (system, (), 1, 3), list)]
+        found += [(kept_rows, (system, (0,), 0, 5), list), (index_of_kept, (system, [0, [1]]), None)]
+        if possible:
+            row = nth_kept(system, 0)
+            found += [(nth_kept, (system, 0), tuple), (index_of_kept, (system, row), int)]
+            found += [(kept_rows, (system, row, 0, 5), list)]
+    return found
+
+
 class Results(unittest.TestCase):
     def check_kinds(self, value):
         """Tuples of tuples, integers, strings and None; no list, and no True or False in a tuple."""
@@ -151,6 +217,7 @@ class Results(unittest.TestCase):
         for function, given, kind in calls():
             result = function(*given)
             self.assertIs(type(result), kind or type(None), (function.__name__, given))
+            self.assertTrue(kind is bool or type(result) is not bool)
             if kind in (tuple, list):
                 self.check_kinds(tuple(result))
 

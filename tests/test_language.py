@@ -15,6 +15,13 @@ ALLOWED_BUILTINS = set(
     " OverflowError RuntimeError NotImplementedError AttributeError StopIteration NotImplemented".split()
 )
 BARRED_NAMES = set("register mro elements open input law version_info with_traceback add_note".split())
+ITERATING = set("list tuple dict sorted sum min max any all enumerate zip".split())
+ITERATED = set("range zip enumerate reversed".split())
+METHODS = set(
+    "append clear copy count endswith extend find get index insert isalnum isalpha isdigit islower isspace isupper items"
+    " join keys ljust lower lstrip partition pop remove replace reverse rfind rjust rpartition rsplit rstrip setdefault"
+    " split splitlines startswith strip update upper values zfill bit_length".split()
+)
 BARRED_STATEMENTS = (ast.Global, ast.AsyncFunctionDef, ast.AsyncFor, ast.AsyncWith, ast.Await, ast.Import)
 
 
@@ -22,6 +29,23 @@ def names_of(tree):
     """All names in the file: of variables, functions, classes, imports, parameters, keywords and attributes."""
     fields = [(node, field) for node in ast.walk(tree) for field in ("id", "name", "asname", "attr", "arg")]
     return [name for node, field in fields if isinstance(name := getattr(node, field, None), str)]
+
+
+def imports_of(tree):
+    return [node for node in tree.body if isinstance(node, ast.ImportFrom)]
+
+
+def called_name(node):
+    """The bare name of what is called, if the node is such a call."""
+    return node.func.id if isinstance(node, ast.Call) and isinstance(node.func, ast.Name) else None
+
+
+def iterated_at_once(tree):
+    """The nodes that stand where something is iterated on the spot: in loops, and in calls that go over it."""
+    loops = [node.iter for node in ast.walk(tree) if isinstance(node, (ast.For, ast.comprehension))]
+    calls = [node for node in ast.walk(tree) if isinstance(node, ast.Call) and node.args]
+    joins = [node.args[0] for node in calls if isinstance(node.func, ast.Attribute) and node.func.attr == "join"]
+    return loops + joins + [node.args[0] for node in calls if called_name(node) in ITERATING]
 
 
 def bound_names(tree):
@@ -63,6 +87,57 @@ class Language(unittest.TestCase):
                     self.assertIn(node, tree.body, path)
                     own = node.module.startswith("kepttogether.")
                     self.assertTrue(own or node.module in LIBRARY, (path, node.module))
+
+    def test_each_import_names_the_file_that_defines_the_name_and_is_used(self):
+        for path, _, tree in self.each():
+            used = {node.id for node in ast.walk(tree) if isinstance(node, ast.Name)}
+            for node in imports_of(tree):
+                for alias in node.names:
+                    self.assertIn(alias.name, used, path)
+                    if node.module.startswith("kepttogether."):
+                        file = PACKAGE / (node.module.split(".")[1] + ".py")
+                        below = ast.parse(file.read_text(encoding="ascii")).body
+                        defined = [one.name for one in below if isinstance(one, (ast.FunctionDef, ast.ClassDef))]
+                        defined += [one.targets[0].id for one in below if isinstance(one, ast.Assign)]
+                        self.assertIn(alias.name, defined, (path, node.module))
+
+    def test_no_files_import_from_each_other(self):
+        left = {
+            f"kepttogether.{path.stem}": {node.module for node in imports_of(tree)} for path, _, tree in self.each()
+        }
+        while left:
+            ready = [name for name, needed in left.items() if not needed & set(left)]
+            self.assertNotEqual(ready, [], f"these import from each other: {sorted(left)}")
+            left = {name: needed for name, needed in left.items() if name not in ready}
+
+    def test_no_import_is_given_another_meaning(self):
+        for path, _, tree in self.each():
+            imported = [alias.name for node in imports_of(tree) for alias in node.names]
+            self.assertEqual(len(set(imported)), len(imported), path)
+            self.assertEqual(set(imported) & set(bound_names(tree)), set(), path)
+
+    def test_is_only_beside_none_true_and_false(self):
+        for path, _, tree in self.each():
+            for node in ast.walk(tree):
+                if isinstance(node, ast.Compare) and isinstance(node.ops[0], (ast.Is, ast.IsNot)):
+                    self.assertIsInstance(node.comparators[0], ast.Constant, (path, node.lineno))
+
+    def test_what_is_iterated_at_once(self):
+        for path, _, tree in self.each():
+            there = {id(node) for node in iterated_at_once(tree)}
+            for node in ast.walk(tree):
+                if called_name(node) in ITERATED or isinstance(node, ast.GeneratorExp):
+                    self.assertIn(id(node), there, (path, node.lineno))
+
+    def test_methods_numbers_and_strings(self):
+        for path, _, tree in self.each():
+            for node in ast.walk(tree):
+                if isinstance(node, ast.Call) and isinstance(node.func, ast.Attribute):
+                    self.assertIn(node.func.attr, METHODS | {"__init__"}, (path, node.lineno))
+                self.assertNotIsInstance(node, ast.Div, path)
+                if isinstance(node, ast.Constant):
+                    self.assertNotIsInstance(node.value, float, path)
+                    self.assertNotIn("%", str(node.value), path)
 
     def test_names_that_are_not_used(self):
         for path, _, tree in self.each():
