@@ -5,7 +5,7 @@ from itertools import permutations, product
 from math import factorial
 from random import Random
 
-from support import ends, is_number, is_right_chain, stands_together
+from support import ends, is_number, is_right_chain, rows, stands_together
 
 
 def partitions(members):
@@ -32,7 +32,8 @@ def trees_of(members):
             for children in product(*[trees_of(tuple(block)) for block in blocks]):
                 found.append(("any", tuple(children)))
                 if len(children) > 2:
-                    found += [("turn", order) for order in permutations(children) if leaves(order[0]) < leaves(order[-1])]
+                    orders = [order for order in permutations(children) if leaves(order[0]) < leaves(order[-1])]
+                    found += [("turn", order) for order in orders]
     return found
 
 
@@ -125,9 +126,26 @@ def is_canonical_by_words(tree):
     return True
 
 
+@lru_cache(None)
+def rows_together(size, chosen):
+    """All rows of so many elements in which the set is together."""
+    return frozenset(row for row in rows(size) if stands_together(chosen, row))
+
+
 def fits_by_words(tree, chosen):
     """Point 66, its first sentence: together in all rows."""
-    return all(stands_together(chosen, row) for row in rows_of(tree))
+    if len(leaves(tree)) > 5:
+        return all(stands_together(chosen, row) for row in rows_of(tree))
+    there = rows_together(len(leaves(tree)), chosen)
+    return all(row in there for row in rows_of(tree))
+
+
+def reduced_by_words(tree, chosen):
+    """Point 67, by its rows (up to 5 elements)."""
+    size = len(leaves(tree))
+    there = rows_together(size, chosen)
+    left = tuple(row for row in rows_of(tree) if row in there)
+    return trees_by_rows(size)[left] if left else None
 
 
 def told_by_words(tree):

@@ -178,8 +178,7 @@ def calls_of_solving():
 
 def calls_of_trees():
     found = []
-    trees = [tree for size in (1, 2, 3) for tree in all_trees(size)] + drawn_trees(5, 4, "calls") + drawn_trees(8, 4, "calls")
-    for tree in trees:
+    for tree in all_trees(1) + all_trees(2) + all_trees(3) + drawn_trees(5, 4, "calls") + drawn_trees(8, 4, "calls"):
         size = len(leaves(tree))
         row, kind = tuple(range(size)), tuple if size > 1 else int
         found += [(is_tree, (value, size), bool) for value in (tree, [tree], ["any", [0, 1]], ("any", [0, [1]]))]

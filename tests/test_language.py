@@ -18,8 +18,8 @@ BARRED_NAMES = set("register mro elements open input law version_info with_trace
 ITERATING = set("list tuple dict sorted sum min max any all enumerate zip".split())
 ITERATED = set("range zip enumerate reversed".split())
 METHODS = set(
-    "append clear copy count endswith extend find get index insert isalnum isalpha isdigit islower isspace isupper items"
-    " join keys ljust lower lstrip partition pop remove replace reverse rfind rjust rpartition rsplit rstrip setdefault"
+    "append clear copy count endswith extend find get index insert isalnum isalpha isdigit islower isspace isupper"
+    " items join keys ljust lower lstrip partition pop remove replace reverse rfind rjust rpartition rsplit rstrip setdefault"
     " split splitlines startswith strip update upper values zfill bit_length".split()
 )
 BARRED_STATEMENTS = (ast.Global, ast.AsyncFunctionDef, ast.AsyncFor, ast.AsyncWith, ast.Await, ast.Import)

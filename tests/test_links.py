@@ -103,7 +103,9 @@ class Agreeing(unittest.TestCase):
             kept = keeping_rows(system)
             # Point 37 is told of systems that are not contradictory.
             for pair in pairs(system[0]) if kept else []:
-                agreeing = [other for other in pairs(system[0]) if all(has(row, pair) == has(row, other) for row in kept)]
+                agreeing = [
+                    other for other in pairs(system[0]) if all(has(row, pair) == has(row, other) for row in kept)
+                ]
                 self.assertEqual(list(class_of(system, pair)), agreeing, (system, pair))
                 met += len(agreeing) > 1
         self.assertGreater(met, 500)

@@ -10,8 +10,9 @@ from kepttogether.reducing import accepts_tree, grounds_for, reduced, tree_of
 from kepttogether.systems import keeps
 from kepttogether.trees import canonical, count_rows, fits, is_row_of, is_tree, told_sets
 from growing import (
-    FEW_TREES, all_trees, asked_by_words, canonical_by_rows, count_by_words, drawn_trees, inner_parts,
-    is_accepted_by_words, is_canonical_by_words, is_tree_by_words, leaves, rows_of, stirred, told_by_words, trees_by_rows,
+    ALL_TREES, FEW_TREES, all_trees, asked_by_words, canonical_by_rows, count_by_words, drawn_trees, inner_parts,
+    is_accepted_by_words, is_canonical_by_words, is_tree_by_words, leaves, reduced_by_words, rows_of, stirred,
+    told_by_words, trees_by_rows,
 )
 from support import (
     EDGE_SYSTEMS, LARGE_SYSTEMS, SMALL_SYSTEMS, all_systems, drawn_systems, ends, fewest_steps, is_right_chain,
@@ -22,12 +23,6 @@ SYSTEM = (5, ((0, 1, 2), (2, 3, 4)))
 THREE = (3, ((0, 1), (1, 2), (0, 2)))
 MANY_SYSTEMS = SMALL_SYSTEMS + all_systems(3, 3)[::3] + drawn_systems(80, 4, 5, 5, "trees")
 FEW_SYSTEMS = EDGE_SYSTEMS + all_systems(3, 2)[::5] + drawn_systems(30, 4, 5, 4, "few trees")
-
-
-def reduced_by_words(tree, chosen):
-    """Point 67, by its rows."""
-    left = tuple(row for row in rows_of(tree) if stands_together(chosen, row))
-    return trees_by_rows(len(leaves(tree)))[left] if left else None
 
 
 def tree_by_words(system):
@@ -41,7 +36,7 @@ class Reducing(unittest.TestCase):
 
     def test_all_trees_and_all_sets(self):
         met = {"none": 0, "same": 0, "other": 0}
-        for tree in FEW_TREES + all_trees(5)[5::12]:
+        for tree in ALL_TREES:
             for chosen in subsets(len(leaves(tree))):
                 expected = reduced_by_words(tree, chosen)
                 self.assertEqual(reduced(tree, chosen), expected, (tree, chosen))
@@ -82,7 +77,8 @@ class Reducing(unittest.TestCase):
         tree = ("any", (0, 1, 2, 3, 4))
         self.assertEqual(reduced(tree, (1, 3)), ("any", (0, ("any", (1, 3)), 2, 4)))
         self.assertEqual(reduced(tree, (0, 1, 2, 3)), ("any", (("any", (0, 1, 2, 3)), 4)))
-        self.assertEqual(reduced(("any", (0, ("any", (1, 2, 3)), 4)), (1, 3)), ("any", (0, ("any", (("any", (1, 3)), 2)), 4)))
+        tree = ("any", (0, ("any", (1, 2, 3)), 4))
+        self.assertEqual(reduced(tree, (1, 3)), ("any", (0, ("any", (("any", (1, 3)), 2)), 4)))
 
     def test_at_one_end_of_a_part_with_the_word_turn(self):
         tree = ("turn", (("any", (0, 1)), 2, ("any", (3, 4))))
@@ -198,9 +194,8 @@ class Grounds(unittest.TestCase):
         found = grounds_for(SYSTEM)
         self.assertEqual(told_sets(tree_of(SYSTEM)), [(0, 1), (0, 1, 2), (2, 3, 4), (3, 4)])
         self.assertEqual([ends(chain) for chain in found[0]], [((0, z), (1, z)) for z in (2, 3, 4)])
-        self.assertEqual(
-            [ends(chain) for chain in found[1]], [((0, 3), (1, 3)), ((1, 3), (2, 3)), ((0, 4), (1, 4)), ((1, 4), (2, 4))],
-        )
+        asked = [((0, 3), (1, 3)), ((1, 3), (2, 3)), ((0, 4), (1, 4)), ((1, 4), (2, 4))]
+        self.assertEqual([ends(chain) for chain in found[1]], asked)
 
     def test_the_chains_are_not_longer_than_needed(self):
         for chains in grounds_for(SYSTEM):
@@ -231,7 +226,8 @@ class Judge(unittest.TestCase):
         for at, chains in enumerate(grounds):
             for place, (begin, steps) in enumerate(chains):
                 wrong = [(begin, steps[:-1]), (begin, steps + ((0, begin),)), (begin[::-1], steps), (begin, ())]
-                wrong += [(begin, ((1 - steps[0][0], steps[0][1]),) + steps[1:]), chains[place - 1] if len(chains) > 1 else ()]
+                wrong += [(begin, ((1 - steps[0][0], steps[0][1]),) + steps[1:])]
+                wrong += [chains[place - 1] if len(chains) > 1 else ()]
                 for other in wrong:
                     changed = grounds[:at] + (chains[:place] + (other,) + chains[place + 1:],) + grounds[at + 1:]
                     self.assertIs(accepts_tree(SYSTEM, tree, changed), False, (at, place, other))

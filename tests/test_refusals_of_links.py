@@ -20,8 +20,9 @@ WRONG_CHAINS = NO_TUPLES + [
     (), (0, 2), CHAIN[:1], CHAIN + ((),), list(CHAIN), (list(CHAIN[0]), STEPS), (CHAIN[0], list(STEPS)),
     (CHAIN[0], None), (CHAIN[0], 0), ((0, 0), ()), ((0, 4), ()), ((-1, 0), ()), ((0, True), ()), ((0,), ()),
     ((0, 1, 2), ()), (("0", "1"), ()), ((), ()), (CHAIN[0], STEPS[0]), (CHAIN[0], (STEPS,)),
-    (CHAIN[0], ((2, (0, 1)),)), (CHAIN[0], ((-1, (0, 1)),)), (CHAIN[0], ((True, (0, 1)),)), (CHAIN[0], (("1", (0, 1)),)),
-    (CHAIN[0], ((None, (0, 1)),)), (CHAIN[0], ((1, (0, 4)),)), (CHAIN[0], ((1, (1, 1)),)), (CHAIN[0], ((1, [0, 1]),)),
+    (CHAIN[0], ((2, (0, 1)),)), (CHAIN[0], ((-1, (0, 1)),)), (CHAIN[0], ((True, (0, 1)),)),
+    (CHAIN[0], (("1", (0, 1)),)), (CHAIN[0], ((None, (0, 1)),)), (CHAIN[0], ((1, (0, 4)),)),
+    (CHAIN[0], ((1, (1, 1)),)), (CHAIN[0], ((1, [0, 1]),)),
     (CHAIN[0], ((1, (0, True)),)), (CHAIN[0], ([1, (0, 1)],)), (CHAIN[0], ((1, 0, 1),)), (CHAIN[0], ((1,),)),
     (CHAIN[0], ((1, (0, 1), 0),)), (CHAIN[0], STEPS + (None,)), (CHAIN[0], STEPS[:1] * 101), STEPS, (STEPS, CHAIN[0]),
 ]

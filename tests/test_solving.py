@@ -188,8 +188,9 @@ class Judge(unittest.TestCase):
         self.assertIs(accepts(THREE, row), False)
         for system, (word, found) in [((3, THREE[1][:2]), row), (THREE, chain)]:
             for value in [
-                (word,), (word, found, ()), [word, found], (found, word), (word, list(found)), (word, None), found, word,
-                (word + " ", found), ("", found), (None, found), (("row",), found), ([word], found), (True, found), None, (),
+                (word,), (word, found, ()), [word, found], (found, word), (word, list(found)), (word, None), found,
+                word, (word + " ", found), ("", found), (None, found), (("row",), found), ([word], found),
+                (True, found), None, (),
             ]:
                 self.assertIs(accepts(system, value), False, value)
 

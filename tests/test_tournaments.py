@@ -137,7 +137,8 @@ class Components(unittest.TestCase):
         for size, tournament in SMALL + OF_FIVE[::5] + LARGE + [(8, WINDING)]:
             found = components(size, tournament)
             self.assertEqual(sorted(x for group in found for x in group), list(range(size)))
-            self.assertTrue(all((x, y) in tournament for one, other in combinations(found, 2) for x in one for y in other))
+            for one, other in combinations(found, 2):
+                self.assertTrue(all((x, y) in tournament for x in one for y in other))
 
     def test_edges(self):
         self.assertEqual(components(1, ()), ((0,),))
@@ -155,8 +156,8 @@ class Rows(unittest.TestCase):
         for size, tournament in SMALL + OF_FIVE + LARGE:
             found = row_by_words(tuple(range(size)), tournament)
             self.assertEqual(row_of(size, tournament), found, (size, tournament))
-            groups = components_by_words(range(size), tournament)
-            deep += any(len(block) > 1 for group in groups if len(group) > 1 for block in blocks_by_words(group, tournament))
+            groups = [group for group in components_by_words(range(size), tournament) if len(group) > 1]
+            deep += any(len(block) > 1 for group in groups for block in blocks_by_words(group, tournament))
         self.assertGreater(deep, 20)
 
     def test_each_element_is_in_exactly_one_block(self):

@@ -7,9 +7,9 @@ from random import Random
 from kepttogether.trees import canonical, count_rows, fits, is_row_of, is_tree, told_sets, tree_text
 from growing import (
     ALL_TREES, FEW_TREES, all_trees, canonical_by_rows, count_by_words, drawn_trees, fits_by_words, inner_parts,
-    is_canonical_by_words, is_tree_by_words, leaves, rows_of, stirred, told_by_words, trees_by_rows,
+    is_canonical_by_words, is_tree_by_words, leaves, rows_of, rows_together, stirred, told_by_words, trees_by_rows,
 )
-from support import rows, stands_together, subsets
+from support import rows, subsets
 
 LARGE_TREES = [tree for size in (6, 7, 8) for tree in drawn_trees(size, 12, "large trees")]
 DEEP = ("any", (0, ("turn", (1, ("any", (2, ("turn", (3, ("any", (4, 5)), 6)))), 7))))
@@ -38,7 +38,8 @@ class Forms(unittest.TestCase):
             self.assertIs(is_tree(value, 1), False, value)
 
     def test_too_few_children(self):
-        for value in [("any", (0, 1)), ("any", (0, ("any", (1, 2)))), ("turn", (0, 1, 2)), ("any", (("turn", (2, 0, 3)), 1))]:
+        pair, three = ("any", (0, 1)), ("turn", (2, 0, 3))
+        for value in [pair, ("any", (0, ("any", (1, 2)))), ("turn", (0, 1, 2)), ("any", (three, 1))]:
             self.assertIs(is_tree(value, len(leaves(value))), True)
         for value in [
             ("any", ()), ("turn", ()), ("any", (0,)), ("turn", (0,)), ("turn", (0, 1)), ("any", (0, ("turn", (1, 2)))),
@@ -58,10 +59,10 @@ class Forms(unittest.TestCase):
 
     def test_words_and_kinds(self):
         for value in [
-            ("all", (0, 1)), ("ANY", (0, 1)), ("", (0, 1)), (None, (0, 1)), (True, (0, 1)), (("any",), (0, 1)), (["any"], (0, 1)),
-            ["any", (0, 1)], ("any", [0, 1]), ("any", (0, 1), ()), ("any",), ("any", 0, 1), ("any", "01"), ("any", (0, "1")),
-            ("any", (0, True)), ("any", (False, 1)), ("any", (0, None)), ("any", (0, (1,))), (0, 1), "any", ((0, 1), "any"),
-            ("any", (0, [1])),
+            ("all", (0, 1)), ("ANY", (0, 1)), ("", (0, 1)), (None, (0, 1)), (True, (0, 1)), (("any",), (0, 1)),
+            (["any"], (0, 1)), ["any", (0, 1)], ("any", [0, 1]), ("any", (0, 1), ()), ("any",), ("any", 0, 1),
+            ("any", "01"), ("any", (0, "1")), ("any", (0, True)), ("any", (False, 1)), ("any", (0, None)),
+            ("any", (0, (1,))), (0, 1), "any", ((0, 1), "any"), ("any", (0, [1])),
         ]:
             self.assertIs(is_tree(value, 2), False, value)
 
@@ -84,7 +85,7 @@ class Rows(unittest.TestCase):
 
     def test_rows(self):
         both = {True: 0, False: 0}
-        for tree in FEW_TREES:
+        for tree in ALL_TREES:
             there = set(rows_of(tree))
             for row in rows(len(leaves(tree))):
                 self.assertIs(is_row_of(tree, row), row in there, (tree, row))
@@ -190,7 +191,7 @@ class Fitting(unittest.TestCase):
         tree = ("turn", (0, ("any", (1, 2)), 3, 4, 5))
         for chosen in [(0, 1, 2), (1, 2, 3), (3, 4), (4, 5), (3, 4, 5), (1, 2, 3, 4), (0, 1, 2, 3), (1, 2, 3, 4, 5)]:
             self.assertIs(fits(tree, chosen), True, chosen)
-        for chosen in [(0, 1), (2, 3), (3, 5), (0, 5), (0, 3), (1, 2, 4), (0, 1, 2, 4), (0, 2, 3), (0, 4, 5), (0, 1, 2, 5)]:
+        for chosen in [(0, 1), (2, 3), (3, 5), (0, 5), (0, 3), (1, 2, 4), (0, 1, 2, 4), (0, 2, 3), (0, 4, 5)]:
             self.assertIs(fits(tree, chosen), False, chosen)
 
     def test_parts(self):
@@ -215,10 +216,10 @@ class Told(unittest.TestCase):
             self.assertTrue(all(fits(tree, chosen) for chosen in found))
 
     def test_the_rows_are_those_in_which_all_told_sets_are_together(self):
-        for tree in FEW_TREES:
-            found = told_sets(tree)
-            expected = [row for row in rows(len(leaves(tree))) if all(stands_together(chosen, row) for chosen in found)]
-            self.assertEqual(list(rows_of(tree)), expected, tree)
+        for tree in ALL_TREES:
+            size = len(leaves(tree))
+            there = set(rows(size)).intersection(*[rows_together(size, chosen) for chosen in told_sets(tree)])
+            self.assertEqual(set(rows_of(tree)), there, tree)
 
     def test_edges(self):
         self.assertEqual(told_sets(0), [])
@@ -226,7 +227,8 @@ class Told(unittest.TestCase):
         self.assertEqual(told_sets(("any", tuple(range(8)))), [])
         self.assertEqual(told_sets(("turn", (1, 0, 2))), [(0, 1), (0, 2)])
         self.assertEqual(told_sets(("any", (("any", (2, 1)), 0))), [(1, 2)])
-        self.assertEqual(told_sets(("turn", (("any", (0, 1)), 2, ("any", (3, 4))))), [(0, 1), (0, 1, 2), (2, 3, 4), (3, 4)])
+        tree = ("turn", (("any", (0, 1)), 2, ("any", (3, 4))))
+        self.assertEqual(told_sets(tree), [(0, 1), (0, 1, 2), (2, 3, 4), (3, 4)])
 
     def test_a_changed_list_changes_no_later_result(self):
         tree = ("turn", (0, 1, 2, 3))
