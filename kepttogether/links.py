@@ -2,7 +2,7 @@
 
 from kepttogether.checks import demand, is_pair
 from kepttogether.systems import is_system
-from kepttogether.ways import all_pairs, reverse_of, step_table, steps_at, ways_from
+from kepttogether.ways import all_pairs, pair_linked_back, reverse_of, step_table, steps_at, ways_from
 
 
 def steps_from(system, pair):
@@ -27,11 +27,7 @@ def are_linked(system, pair, other):
 def contradictory_pair(system):
     """Return the first pair that is linked to its reverse, or None if there is none."""
     demand(is_system(system), "system")
-    table = step_table(system)
-    for pair in all_pairs(system[0]):
-        if reverse_of(pair) in ways_from(table, pair):
-            return pair
-    return None
+    return pair_linked_back(system)
 
 
 def is_contradictory(system):

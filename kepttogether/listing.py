@@ -3,7 +3,7 @@
 from kepttogether.checks import are_below, demand, is_integer
 from kepttogether.parts import ANY, any_of, content, count_all, is_element
 from kepttogether.reducing import tree_of
-from kepttogether.systems import is_row, is_system, keeps
+from kepttogether.systems import is_keeping_row, is_system
 
 LARGEST_INDEX = 100000
 MOST_ROWS = 20
@@ -30,7 +30,7 @@ def nth_kept(system, index):
 def index_of_kept(system, value):
     """Return the index of the value among the keeping rows, or None if it is none."""
     demand(is_system(system), "system")
-    if not is_row(value, system[0]) or not keeps(system, value):
+    if not is_keeping_row(system, value):
         return None
     tree = tree_of(system)
     return sum(_count_ahead(tree, value, place) for place in range(len(value)))

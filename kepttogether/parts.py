@@ -84,6 +84,30 @@ def count_all(part):
     return many
 
 
+def row_with(part, pair):
+    """Return a row of the part that has the pair of its elements, if there is one.
+
+    This row and the one for the reverse of the pair differ only where they must: each pair that is not
+    linked to the pair or to its reverse is had by both, or by none.
+    """
+    if is_element(part):
+        return (part,)
+    return tuple(x for child in _beginning_with(part, pair) for x in row_with(child, pair))
+
+
+def _beginning_with(part, pair):
+    # The children in a sequence in which those with the elements of the pair have its order. In a part
+    # with the word any these two come first, so that no other child is between them.
+    word, children = part
+    ahead = [child for child in children if pair[0] in content(child)]
+    behind = [child for child in children if pair[1] in content(child)]
+    if ahead == behind or not ahead or not behind:
+        return children
+    if word == TURN:
+        return children if children.index(ahead[0]) < children.index(behind[0]) else children[::-1]
+    return ahead + behind + [child for child in children if child not in ahead + behind]
+
+
 def _is_inner(value):
     if not is_tuple_of(value, 2) or not isinstance(value[1], tuple):
         return False

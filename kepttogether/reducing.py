@@ -1,11 +1,11 @@
 """Reducing trees by sets, the tree of a system, and the grounds that it is this tree."""
 
-from kepttogether.chains import accepts_chain
 from kepttogether.checks import demand, is_tuple_of
+from kepttogether.following import lead_all
 from kepttogether.parts import ANY, TURN, any_of, content, in_order
 from kepttogether.systems import is_system
 from kepttogether.trees import canonical, fits, is_tree, told_sets
-from kepttogether.ways import chain_to, step_table, ways_from
+from kepttogether.ways import chains_for, links_around
 
 NONE_CHOSEN = 0
 SOME_CHOSEN = 1
@@ -38,8 +38,7 @@ def grounds_for(system):
     tree = tree_of(system)
     if tree is None:
         return None
-    table = step_table(system)
-    return tuple(_chains_for(table, chosen, system[0]) for chosen in told_sets(tree))
+    return tuple(chains_for(system, links_around(chosen, system[0])) for chosen in told_sets(tree))
 
 
 def accepts_tree(system, tree, grounds):
@@ -51,26 +50,7 @@ def accepts_tree(system, tree, grounds):
     told = told_sets(tree)
     if not is_tuple_of(grounds, len(told)):
         return False
-    return all(_show_together(system, chosen, chains) for chosen, chains in zip(told, grounds))
-
-
-def _asked(chosen, size):
-    # The links that show that a set is together: each other element stands on one side of all of it.
-    return [
-        ((chosen[at], z), (chosen[at + 1], z))
-        for z in range(size) if z not in chosen for at in range(len(chosen) - 1)
-    ]
-
-
-def _chains_for(table, chosen, size):
-    return tuple(chain_to(ways_from(table, pair), other) for pair, other in _asked(chosen, size))
-
-
-def _show_together(system, chosen, chains):
-    asked = _asked(chosen, system[0])
-    if not is_tuple_of(chains, len(asked)):
-        return False
-    return all(accepts_chain(system, pair, other, chain) for (pair, other), chain in zip(asked, chains))
+    return all(lead_all(system, links_around(chosen, size), chains) for chosen, chains in zip(told, grounds))
 
 
 def _share(part, chosen):

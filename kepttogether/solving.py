@@ -4,7 +4,7 @@ from kepttogether.chains import accepts_refutation, refutation
 from kepttogether.checks import demand, is_tuple_of
 from kepttogether.deciding import tournament_of
 from kepttogether.links import listed_classes
-from kepttogether.systems import is_row, is_system, keeps
+from kepttogether.systems import is_keeping_row, is_system
 from kepttogether.tournaments import row_of
 
 ROW = "row"
@@ -36,5 +36,5 @@ def accepts(system, answer):
         return False
     word, value = answer
     if word == ROW:
-        return is_row(value, system[0]) and keeps(system, value)
+        return is_keeping_row(system, value)
     return word == CHAIN and accepts_refutation(system, value)

@@ -76,7 +76,7 @@ def part(system, members):
 
 def part_of_row(row, members):
     """Return the part of the row for the members."""
-    demand(_is_some_row(row), "row")
+    demand(is_some_row(row), "row")
     _check_members(members, len(row))
     return _numbered(row, members)
 
@@ -91,9 +91,19 @@ def renamed(system, order):
 
 def renamed_row(row, order):
     """Return the row with the element order[e] for each element e."""
-    demand(_is_some_row(row), "row")
+    demand(is_some_row(row), "row")
     _check_order(order, len(row))
     return tuple(order[x] for x in row)
+
+
+def is_some_row(value):
+    """Tell whether the value is a row of 1 to 8 elements."""
+    return isinstance(value, tuple) and 1 <= len(value) <= LARGEST_SIZE and is_row(value, len(value))
+
+
+def is_keeping_row(system, value):
+    """Tell whether the value is a row that keeps the system."""
+    return is_row(value, system[0]) and keeps(system, value)
 
 
 def _check_both(system, row):
@@ -108,10 +118,6 @@ def _check_members(members, size):
 def _check_order(order, size):
     # An order of some things has the same form as a row of as many elements.
     demand(is_row(order, size), "order")
-
-
-def _is_some_row(value):
-    return isinstance(value, tuple) and 1 <= len(value) <= LARGEST_SIZE and is_row(value, len(value))
 
 
 def _span(chosen, row):

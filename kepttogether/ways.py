@@ -1,6 +1,7 @@
 """Pairs of elements, the steps that lead from one to another, and the shortest ways by these steps.
 
-Nothing is checked here: the modules that use this have checked their arguments.
+Nothing is checked here: the modules that use this have checked their arguments. A system may have more
+sets here than a system of the document.
 """
 
 
@@ -56,3 +57,65 @@ def chain_to(ways, other):
         steps.append((index, at))
         at = before
     return (at, tuple(reversed(steps)))
+
+
+def shortest_chain(table, pair, other):
+    """Return a shortest chain from the one pair to the other, or None if they are not linked."""
+    ways = ways_from(table, pair)
+    return chain_to(ways, other) if other in ways else None
+
+
+def shortest_refutation(system):
+    """Return a shortest chain from a pair to its reverse, or None if there is none."""
+    table = step_table(system)
+    chains = [shortest_chain(table, pair, reverse_of(pair)) for pair in all_pairs(system[0])]
+    return min([chain for chain in chains if chain is not None], key=_count_steps, default=None)
+
+
+def first_of_class(system):
+    """Return, for each pair, the first one of the pairs that are linked to it: linked pairs have the same one."""
+    table = step_table(system)
+    first = {}
+    # The pairs ascend, so the first one of a class is met before the others.
+    for pair in all_pairs(system[0]):
+        if pair not in first:
+            for linked in ways_from(table, pair):
+                first[linked] = pair
+    return first
+
+
+def pair_linked_back(system):
+    """Return the first pair that is linked to its reverse, or None if there is none."""
+    first = first_of_class(system)
+    for pair in all_pairs(system[0]):
+        if first[pair] == first[reverse_of(pair)]:
+            return pair
+    return None
+
+
+def links_around(chosen, size):
+    """Return the links, pairs of pairs, that show that a set is together.
+
+    They are told by each other element, and by each two neighbours in the set: the element comes before both
+    or behind both.
+    """
+    return [
+        ((chosen[at], z), (chosen[at + 1], z))
+        for z in range(size) if z not in chosen for at in range(len(chosen) - 1)
+    ]
+
+
+def are_all_linked(system, links):
+    """Tell whether both pairs of each of the links are linked."""
+    first = first_of_class(system)
+    return all(first[pair] == first[other] for pair, other in links)
+
+
+def chains_for(system, links):
+    """Return the tuple of a shortest chain for each of the links; the pairs of each are linked."""
+    table = step_table(system)
+    return tuple(shortest_chain(table, pair, other) for pair, other in links)
+
+
+def _count_steps(chain):
+    return len(chain[1])

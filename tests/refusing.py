@@ -102,5 +102,5 @@ class RefusalChecks:
     def test_all_arguments_wrong(self):
         for function, *parameters in self.functions:
             refused = [name for name, _, wrong in parameters if wrong]
-            for value in (None, [], True, -1, "x", ((),)):
+            for value in (None, [], True, -1, "\n", ((),)):
                 self.check_refused(function, [value for _ in parameters], refused[0])

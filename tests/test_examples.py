@@ -115,6 +115,38 @@ INTERFACE_LISTING = """
 [(0, 1, 2, 4, 3)]
 """
 
+INTERFACE_PROPERTIES = """
+>>> from kepttogether.properties import accepts_evidence, evidence_for, has, told
+>>> system = (5, ((0, 1, 2), (2, 3, 4)))
+>>> told(system, ("equivalent", (0, 2), (1, 4))), told(system, ("equivalent", (0, 2), (4, 3))), told(system, ("equivalent", (0, 2), (2, 1)))
+('always', 'sometimes', 'never')
+>>> told(system, ("together", (0, 1))), told(system, ("together", (1, 2))), told(system, ("together", (0, 3)))
+('always', 'sometimes', 'never')
+>>> told(system, ("between", 0, 2, 3)), told(system, ("between", 0, 1, 2)), told(system, ("between", 0, 3, 2))
+('always', 'sometimes', 'never')
+>>> told(system, ("first", 0)), told(system, ("first", 2)), has(system, (0, 1, 2, 3, 4), ("between", 1, 2, 4))
+('sometimes', 'never', True)
+>>> accepts_evidence(system, ("between", 0, 2, 3), ("always", (((0, 2), ((1, (0, 3)), (0, (2, 3)))),)))
+True
+>>> accepts_evidence(system, ("first", 0), ("sometimes", (0, 1, 2, 3, 4), (1, 0, 2, 3, 4)))
+True
+"""
+
+INTERFACE_COLLECTIONS = """
+>>> from kepttogether.collections import accepts_grounds, can_be_left_out, grounds_for, is_possible, smallest_base, told_base
+>>> from kepttogether.conflicts import accepts_conflict, conflict_grounds, smallest_conflict, smallest_removal, told_conflict
+>>> four = (4, ((0, 1), (1, 2), (0, 1, 2), (2, 3)))
+>>> can_be_left_out(four, (0, 1, 2, 3), 2), told_base(four), smallest_base(four)
+(True, (0, 1, 3), (0, 1, 3))
+>>> can_be_left_out(four, (1, 2, 3), 2), accepts_grounds(four, (0, 1, 2, 3), 2, grounds_for(four, (0, 1, 2, 3), 2))
+(False, True)
+>>> more = (4, ((0, 1), (1, 2), (0, 1, 2), (2, 3), (0, 2)))
+>>> is_possible(more, (0, 1, 4)), told_conflict(more), smallest_conflict(more), smallest_removal(more)
+(False, (0, 1, 4), (0, 1, 4), (1,))
+>>> accepts_conflict(more, (0, 1, 4), conflict_grounds(more, (0, 1, 4))), conflict_grounds(more, (0, 1)) is None
+(True, True)
+"""
+
 # Point 18: the system of five elements with the sets 0 1 2 and 2 3 has the derived sets 2, 0 1, 3,
 # and 0 1 2 3 besides. In the row 0 2 3 1 4 the set 0 1 2 has the gap 3.
 POINT_18 = """
@@ -212,6 +244,32 @@ POINT_81 = """
 (8, (0, 1, 2, 3, 4), (4, 3, 2, 1, 0))
 """
 
+# Point 91: five elements and the sets 0 1 2 and 2 3 4. In each row that keeps them, 2 is in the middle.
+POINT_91 = """
+>>> from itertools import permutations
+>>> from kepttogether.properties import told
+>>> from kepttogether.systems import keeps
+>>> system = (5, ((0, 1, 2), (2, 3, 4)))
+>>> {row[2] for row in permutations(range(5)) if keeps(system, row)}
+{2}
+>>> {told(system, ("between", x, 2, y)) for x in (0, 1) for y in (3, 4)}
+{'always'}
+"""
+
+# Point 102: in a system of four elements with the sets 0 1, 1 2, 0 1 2 and 2 3, the set 0 1 2 can be left out.
+# With the set 0 2 besides, no row keeps the sets 0 1, 1 2 and 0 2 together.
+POINT_102 = """
+>>> from itertools import permutations
+>>> from kepttogether.collections import can_be_left_out, is_possible
+>>> from kepttogether.systems import keeps
+>>> sets = ((0, 1), (1, 2), (0, 1, 2), (2, 3))
+>>> can_be_left_out((4, sets), (0, 1, 2, 3), 2)
+True
+>>> more = (4, sets + ((0, 2),))
+>>> is_possible(more, (0, 1, 4)), any(keeps((4, ((0, 1), (1, 2), (0, 2))), row) for row in permutations(range(4)))
+(False, False)
+"""
+
 
 class Examples(unittest.TestCase):
     def check(self, text, many):
@@ -242,6 +300,12 @@ class Examples(unittest.TestCase):
     def test_the_interface_of_listing(self):
         self.check(INTERFACE_LISTING, 5)
 
+    def test_the_interface_of_properties(self):
+        self.check(INTERFACE_PROPERTIES, 8)
+
+    def test_the_interface_of_collections_and_conflicts(self):
+        self.check(INTERFACE_COLLECTIONS, 8)
+
     def test_point_18(self):
         self.check(POINT_18, 4)
 
@@ -262,6 +326,12 @@ class Examples(unittest.TestCase):
 
     def test_point_81(self):
         self.check(POINT_81, 3)
+
+    def test_point_91(self):
+        self.check(POINT_91, 6)
+
+    def test_point_102(self):
+        self.check(POINT_102, 7)
 
 
 if __name__ == "__main__":
