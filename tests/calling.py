@@ -5,11 +5,14 @@ from kepttogether.chains import (
     accepts_chain, accepts_refutation, end_of, fault, joined, mirrored, refutation, shortened, shortest, turned,
 )
 from kepttogether.deciding import tournament_of
+from kepttogether.editor import Editor
+from kepttogether.journals import are_right, replayed
 from kepttogether.links import (
     are_linked, class_of, contradictory_pair, count_sides, is_contradictory, listed_classes, steps_from,
 )
 from kepttogether.listing import count_beginning, count_kept, index_of_kept, kept_rows, nth_kept
 from kepttogether.properties import accepts_evidence, evidence_for, has, is_property, told
+from kepttogether.reading import next_tokens, read_chain, read_row, read_system
 from kepttogether.reducing import accepts_tree, grounds_for, reduced, tree_of
 from kepttogether.scanning import scan
 from kepttogether.sides import (
@@ -21,8 +24,10 @@ from kepttogether.systems import (
 )
 from kepttogether.tournaments import components, is_closed, is_tournament, row_of, smallest_closed
 from kepttogether.trees import canonical, count_rows, fits, is_row_of, is_tree, told_sets, tree_text
+from kepttogether.writing import chain_text, row_text, system_text
 from asking import drawn_properties
 from choosing import all_collections, is_conflict, is_removal, sets_of
+from editing import NAMES, possible_commands
 from growing import all_trees, drawn_trees, leaves
 from support import (
     EDGE_SYSTEMS, LARGE_SYSTEMS, all_tournaments, are_consistent, drawn_sides, drawn_tournaments, keeping_rows,
@@ -38,7 +43,8 @@ def calls():
     """Calls of all functions with right arguments, each with the kind of its result (None where that is None)."""
     found = calls_of_systems() + calls_of_links() + calls_of_chains() + calls_of_tournaments()
     found += calls_of_solving() + calls_of_trees() + calls_of_listing()
-    return found + calls_of_properties() + calls_of_collections() + calls_of_conflicts() + calls_of_texts()
+    found += calls_of_properties() + calls_of_collections() + calls_of_conflicts()
+    return found + calls_of_texts() + calls_of_journals()
 
 
 def calls_of_systems():
@@ -208,4 +214,25 @@ def calls_of_conflicts():
 
 
 def calls_of_texts():
-    return [(scan, (text,), list) for text in ("", "  ", "4: 1 0 | -", "0<1 / 2: 0<3", ":|-</", "007")]
+    found = [(scan, (text,), list) for text in ("", "  ", "4: 1 0 | -", "0<1 / 2: 0<3", ":|-</", "007")]
+    found += [(next_tokens, (text, kind), list) for text in ("", "4") for kind in ("system", "row", "chain")]
+    for system in EDGE_SYSTEMS + LARGE_SYSTEMS[:9]:
+        row = tuple(range(system[0]))[::-1]
+        found += [(system_text, (system,), str), (read_system, (system_text(system),), tuple)]
+        found += [(row_text, (row,), str), (read_row, (system[0], row_text(row)), tuple)]
+        if system[0] > 1:
+            chain = ((0, 1), tuple((0, pair) for pair in pairs(system[0])[:100]) if system[1] else ())
+            found += [(chain_text, (system, chain), str)]
+            found += [(read_chain, (system, chain_text(system, chain)), tuple)]
+    return found
+
+
+def calls_of_journals():
+    found = []
+    for names in (NAMES[:1], NAMES[:3], NAMES):
+        journal = possible_commands(names, 20, "calls")
+        # An editor tells what it is by its methods: for the kinds of their results see the tests of editors.
+        found += [(replayed, (names, journal[:many]), Editor) for many in (0, 1, 20)]
+        records = replayed(names, journal).records()
+        found += [(are_right, (names, value), bool) for value in (records, list(records), [[journal]], ([records],))]
+    return found

@@ -45,6 +45,22 @@ WRONG_PAIRS_OF_4 = NO_TUPLES + [
     (), (0,), (0, 1, 2), (0, 0), (0, 4), (4, 0), (-1, 0), (0, -1), [0, 1], (True, 0), (0, True), (False, 1), (0, "1"),
     ("0", "1"), (0, None), (0, (1,)), ((0, 1),), ((0, 1), (1, 2)), (0, [1]), (0, 10 ** 30),
 ]
+CHAIN = ((0, 2), ((1, (0, 1)), (0, (3, 1))))
+STEPS = CHAIN[1]
+WRONG_CHAINS = NO_TUPLES + [
+    (), (0, 2), CHAIN[:1], CHAIN + ((),), list(CHAIN), (list(CHAIN[0]), STEPS), (CHAIN[0], list(STEPS)),
+    (CHAIN[0], None), (CHAIN[0], 0), ((0, 0), ()), ((0, 4), ()), ((-1, 0), ()), ((0, True), ()), ((0,), ()),
+    ((0, 1, 2), ()), (("0", "1"), ()), ((), ()), (CHAIN[0], STEPS[0]), (CHAIN[0], (STEPS,)),
+    (CHAIN[0], ((2, (0, 1)),)), (CHAIN[0], ((-1, (0, 1)),)), (CHAIN[0], ((True, (0, 1)),)),
+    (CHAIN[0], (("1", (0, 1)),)), (CHAIN[0], ((None, (0, 1)),)), (CHAIN[0], ((1, (0, 4)),)),
+    (CHAIN[0], ((1, (1, 1)),)), (CHAIN[0], ((1, [0, 1]),)),
+    (CHAIN[0], ((1, (0, True)),)), (CHAIN[0], ([1, (0, 1)],)), (CHAIN[0], ((1, 0, 1),)), (CHAIN[0], ((1,),)),
+    (CHAIN[0], ((1, (0, 1), 0),)), (CHAIN[0], STEPS + (None,)), (CHAIN[0], STEPS[:1] * 101), STEPS, (STEPS, CHAIN[0]),
+]
+WRONG_TEXTS = [
+    None, True, False, 0, 7, (), ("1",), [], ["1"], " " * 1001, "1" * 1001, "a" * 1001, "\n", "1\n", "1 \n 2", "a\n",
+    " " * 1001 + "\n", b"1", 10 ** 30,
+]
 NOT_KEEPING = [(0, 2, 1, 3), (1, 3, 2, 0), (0, 2, 3, 1)]
 
 THE_SYSTEM = ("system", SYSTEM, WRONG_SYSTEMS)
@@ -53,6 +69,7 @@ ANOTHER_PAIR = ("other", (3, 0), WRONG_PAIRS_OF_4)
 A_ROW_OF_4 = ("row", ROW, WRONG_ROWS_OF_4)
 A_ROW = ("row", ROW, WRONG_ROWS)
 THE_SIDES = ("sides", SIDES, WRONG_SIDES)
+A_CHAIN = ("chain", CHAIN, WRONG_CHAINS)
 ANY_VALUE = ("value", None, [])
 
 

@@ -147,6 +147,50 @@ INTERFACE_COLLECTIONS = """
 (True, True)
 """
 
+INTERFACE_READING = """
+>>> from kepttogether.reading import next_tokens, read_chain, read_row, read_system
+>>> from kepttogether.writing import chain_text, row_text, system_text
+>>> system = read_system("4: 1 0 | - | 3 2 1")
+>>> system, system_text(system)
+((4, ((0, 1), (), (1, 2, 3))), '4: 0 1 | - | 1 2 3')
+>>> read_row(4, "2 0 1 3"), row_text((2, 0, 1, 3))
+((2, 0, 1, 3), '2 0 1 3')
+>>> read_chain(system, "0<1 / 2: 0<3"), chain_text(system, ((0, 1), ((2, (0, 3)),)))
+(((0, 1), ((2, (0, 3)),)), '0<1 / 2: 0<3')
+>>> next_tokens("4:", "system"), next_tokens("4: 1", "system"), next_tokens("0<1", "chain")
+(['a number', '"-"', 'the end'], ['a number', '"|"', 'the end'], ['"/"', 'the end'])
+"""
+
+# The last call of this part of the interface raises TextError(12, "there is no such element").
+INTERFACE_TEXT_ERROR = """
+>>> from kepttogether.reading import read_system
+>>> from kepttogether.errors import TextError
+>>> try:
+...     read_system("3: 0 1 | 2 3")
+... except TextError as error:
+...     error.column, error.words
+(12, 'there is no such element')
+"""
+
+INTERFACE_EDITOR = """
+>>> from kepttogether.editor import Editor
+>>> from kepttogether.journals import are_right, replayed
+>>> editor = Editor(("elegy", "march", "waltz"))
+>>> editor.act(("add", "ada", ("march", "elegy"))), editor.act(("add", "bob", ("waltz", "march")))
+(1, 2)
+>>> editor.sets(), editor.system()
+((('ada', ('elegy', 'march')), ('bob', ('march', 'waltz'))), (3, ((0, 1), (1, 2))))
+>>> editor.accepts(("row", ("elegy", "march", "waltz"))), editor.accepts(("row", ("march", "elegy", "waltz")))
+(True, False)
+>>> editor.act(("add", "cyd", ("elegy", "waltz"))), editor.answer()[0]
+(3, 'chain')
+>>> chain = (("elegy", "march"), (("bob", ("elegy", "waltz")), ("ada", ("march", "waltz")), ("cyd", ("march", "elegy"))))
+>>> editor.accepts(("chain", chain)), are_right(("elegy", "march", "waltz"), editor.records())
+(True, True)
+>>> editor.undo(), editor.answer()[0], replayed(editor.names(), editor.journal()).sets() == editor.sets()
+(('add', 'cyd', ('elegy', 'waltz')), 'row', True)
+"""
+
 # Point 18: the system of five elements with the sets 0 1 2 and 2 3 has the derived sets 2, 0 1, 3,
 # and 0 1 2 3 besides. In the row 0 2 3 1 4 the set 0 1 2 has the gap 3.
 POINT_18 = """
@@ -270,6 +314,30 @@ True
 (False, False)
 """
 
+# Point 113: the text 4: 1 0 | - | 3 2 1 is that of a system of four elements with the sets 0 1, the empty one, and
+# 1 2 3.
+POINT_113 = """
+>>> from kepttogether.reading import read_system
+>>> read_system("4: 1 0 | - | 3 2 1") == (4, ((0, 1), (), (1, 2, 3)))
+True
+"""
+
+# Point 124: three pieces are to be played; those of Ada and those of Bob are to stay together, and then those of Cyd,
+# too.
+POINT_124 = """
+>>> from kepttogether.editor import Editor
+>>> editor = Editor(("elegy", "march", "waltz"))
+>>> editor.act(("add", "ada", ("elegy", "march"))), editor.act(("add", "bob", ("march", "waltz")))
+(1, 2)
+>>> word, row = editor.answer()
+>>> word, row.index("march"), editor.accepts((word, row))
+('row', 1, True)
+>>> editor.act(("add", "cyd", ("elegy", "waltz"))), editor.answer()[0], editor.accepts(editor.answer())
+(3, 'chain', True)
+>>> editor.accepts((word, row))
+False
+"""
+
 
 class Examples(unittest.TestCase):
     def check(self, text, many):
@@ -306,6 +374,13 @@ class Examples(unittest.TestCase):
     def test_the_interface_of_collections_and_conflicts(self):
         self.check(INTERFACE_COLLECTIONS, 8)
 
+    def test_the_interface_of_reading_and_writing(self):
+        self.check(INTERFACE_READING, 7)
+        self.check(INTERFACE_TEXT_ERROR, 3)
+
+    def test_the_interface_of_editors_and_journals(self):
+        self.check(INTERFACE_EDITOR, 10)
+
     def test_point_18(self):
         self.check(POINT_18, 4)
 
@@ -332,6 +407,12 @@ class Examples(unittest.TestCase):
 
     def test_point_102(self):
         self.check(POINT_102, 7)
+
+    def test_point_113(self):
+        self.check(POINT_113, 2)
+
+    def test_point_124(self):
+        self.check(POINT_124, 7)
 
 
 if __name__ == "__main__":

@@ -19,8 +19,8 @@ ITERATING = set("list tuple dict sorted sum min max any all enumerate zip".split
 ITERATED = set("range zip enumerate reversed".split())
 METHODS = set(
     "append clear copy count endswith extend find get index insert isalnum isalpha isdigit islower isspace isupper"
-    " items join keys ljust lower lstrip partition pop remove replace reverse rfind rjust rpartition rsplit rstrip setdefault"
-    " split splitlines startswith strip update upper values zfill bit_length".split()
+    " items join keys ljust lower lstrip partition pop remove replace reverse rfind rjust rpartition rsplit rstrip"
+    " setdefault split splitlines startswith strip update upper values zfill bit_length".split()
 )
 BARRED_STATEMENTS = (ast.Global, ast.AsyncFunctionDef, ast.AsyncFor, ast.AsyncWith, ast.Await, ast.Import)
 
@@ -46,6 +46,12 @@ def iterated_at_once(tree):
     calls = [node for node in ast.walk(tree) if isinstance(node, ast.Call) and node.args]
     joins = [node.args[0] for node in calls if isinstance(node.func, ast.Attribute) and node.func.attr == "join"]
     return loops + joins + [node.args[0] for node in calls if called_name(node) in ITERATING]
+
+
+def methods_of(tree):
+    """The names of the methods of the file's classes."""
+    classes = [node for node in tree.body if isinstance(node, ast.ClassDef)]
+    return [node.name for one in classes for node in one.body if isinstance(node, ast.FunctionDef)]
 
 
 def bound_names(tree):
@@ -130,10 +136,11 @@ class Language(unittest.TestCase):
                     self.assertIn(id(node), there, (path, node.lineno))
 
     def test_methods_numbers_and_strings(self):
+        own = {name for _, _, tree in self.each() for name in methods_of(tree)}
         for path, _, tree in self.each():
             for node in ast.walk(tree):
                 if isinstance(node, ast.Call) and isinstance(node.func, ast.Attribute):
-                    self.assertIn(node.func.attr, METHODS | {"__init__"}, (path, node.lineno))
+                    self.assertIn(node.func.attr, METHODS | own | {"__init__"}, (path, node.lineno))
                 self.assertNotIsInstance(node, ast.Div, path)
                 if isinstance(node, ast.Constant):
                     self.assertNotIsInstance(node.value, float, path)

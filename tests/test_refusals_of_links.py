@@ -11,21 +11,10 @@ from kepttogether.links import (
 )
 from kepttogether.tournaments import components, is_closed, is_tournament, row_of, smallest_closed
 from refusing import (
-    A_PAIR, ANOTHER_PAIR, ANY_VALUE, NO_TUPLES, THE_SIDES, THE_SYSTEM, WRONG_MEMBERS_OF_4, RefusalChecks,
+    A_CHAIN, A_PAIR, ANOTHER_PAIR, ANY_VALUE, CHAIN, NO_TUPLES, THE_SIDES, THE_SYSTEM, WRONG_CHAINS, WRONG_MEMBERS_OF_4,
+    RefusalChecks,
 )
 
-CHAIN = ((0, 2), ((1, (0, 1)), (0, (3, 1))))
-STEPS = CHAIN[1]
-WRONG_CHAINS = NO_TUPLES + [
-    (), (0, 2), CHAIN[:1], CHAIN + ((),), list(CHAIN), (list(CHAIN[0]), STEPS), (CHAIN[0], list(STEPS)),
-    (CHAIN[0], None), (CHAIN[0], 0), ((0, 0), ()), ((0, 4), ()), ((-1, 0), ()), ((0, True), ()), ((0,), ()),
-    ((0, 1, 2), ()), (("0", "1"), ()), ((), ()), (CHAIN[0], STEPS[0]), (CHAIN[0], (STEPS,)),
-    (CHAIN[0], ((2, (0, 1)),)), (CHAIN[0], ((-1, (0, 1)),)), (CHAIN[0], ((True, (0, 1)),)),
-    (CHAIN[0], (("1", (0, 1)),)), (CHAIN[0], ((None, (0, 1)),)), (CHAIN[0], ((1, (0, 4)),)),
-    (CHAIN[0], ((1, (1, 1)),)), (CHAIN[0], ((1, [0, 1]),)),
-    (CHAIN[0], ((1, (0, True)),)), (CHAIN[0], ([1, (0, 1)],)), (CHAIN[0], ((1, 0, 1),)), (CHAIN[0], ((1,),)),
-    (CHAIN[0], ((1, (0, 1), 0),)), (CHAIN[0], STEPS + (None,)), (CHAIN[0], STEPS[:1] * 101), STEPS, (STEPS, CHAIN[0]),
-]
 SECOND = ((3, 1), ((0, (0, 1)),))
 NOT_JOINED = [CHAIN, ((1, 3), SECOND[1]), ((0, 1), ()), ((0, 2), ()), (SECOND[1][0][1], ())]
 WRONG_SIZES = [None, True, False, 0, 9, -1, 10 ** 30, "", "4", (), (4,), [], [4], (1, 2)]
@@ -40,7 +29,6 @@ WRONG_TOURNAMENTS = NO_TUPLES + [
 ]
 WRONG_CHOSEN_OF_4 = [value for value in WRONG_MEMBERS_OF_4 if value != ()]
 
-A_CHAIN = ("chain", CHAIN, WRONG_CHAINS)
 THE_SIZE = ("size", 4, WRONG_SIZES)
 THE_TOURNAMENT = ("tournament", TOURNAMENT, WRONG_TOURNAMENTS)
 CHOSEN = ("chosen", (0, 2), WRONG_CHOSEN_OF_4)

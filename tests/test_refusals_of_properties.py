@@ -12,7 +12,8 @@ from kepttogether.errors import BadValue, NotPossible, TogetherError, TooLarge
 from kepttogether.properties import accepts_evidence, evidence_for, has, told
 from kepttogether.scanning import scan
 from refusing import (
-    A_ROW_OF_4, ANY_VALUE, NO_TUPLES, SYSTEM, THE_SYSTEM, WRONG_PAIRS_OF_4, WRONG_SYSTEMS, RefusalChecks,
+    A_ROW_OF_4, ANY_VALUE, NO_TUPLES, SYSTEM, THE_SYSTEM, WRONG_PAIRS_OF_4, WRONG_SYSTEMS, WRONG_TEXTS,
+    RefusalChecks,
 )
 
 THREE = (3, ((0, 1), (1, 2), (0, 2)))
@@ -33,11 +34,6 @@ WRONG_COLLECTIONS = NO_TUPLES + [
     ("0",), (None,), ((0,),), [0], [0, 1], (0, 10 ** 30),
 ]
 WRONG_INDEXES = [None, True, False, 0, 2, 8, -1, -2, 10 ** 30, "", "1", (), (1,), [], [1]]
-WRONG_TEXTS = [
-    None, True, False, 0, 7, (), ("1",), [], ["1"], " " * 1001, "1" * 1001, "a" * 1001, "\n", "1\n", "1 \n 2", "a\n",
-    " " * 1001 + "\n", b"1", 10 ** 30,
-]
-
 ASKED = ("asked", ("together", (0, 2)), NO_PROPERTIES)
 COLLECTION = ("collection", (1,), WRONG_COLLECTIONS)
 INDEX = ("index", 1, WRONG_INDEXES)
