@@ -9,7 +9,7 @@ from kepttogether.parts import row_with
 from kepttogether.reducing import reduced, tree_of
 from kepttogether.systems import is_keeping_row, is_row, is_system, keeps
 from kepttogether.ways import (
-    all_pairs, are_all_linked, chains_for, links_around, pair_linked_back, reverse_of, shortest_chain,
+    all_pairs, are_all_linked, chains_for, first_of_class, links_around, pair_linked_back, reverse_of, shortest_chain,
     shortest_refutation, step_table,
 )
 
@@ -153,13 +153,12 @@ def _chain_against(system, asked):
 
 def _chain_from_first_to_last(system, x):
     # A row with such a pair (x, y) has a pair (z, x) as well, so x can't come first; None if there is no such chain.
-    table = step_table(system)
+    first = first_of_class(system)
     found = all_pairs(system[0])
     for pair in [pair for pair in found if pair[0] == x]:
         for other in [other for other in found if other[1] == x]:
-            chain = shortest_chain(table, pair, other)
-            if chain is not None:
-                return chain
+            if first[pair] == first[other]:
+                return shortest_chain(step_table(system), pair, other)
     return None
 
 

@@ -10,41 +10,11 @@ from kepttogether.journals import replayed
 from kepttogether.links import is_contradictory
 from kepttogether.solving import accepts, solve
 from kepttogether.systems import is_system
+from acting import RING, THREE, editor_of, made, named, renamed_once, told
 from editing import NAMES, SET_NAMES, Plain, drawn_commands, possible_commands
 from support import drawn_chain, drawn_systems, ends, keeping_rows, pairs, rows, spoiled
 
-THREE = ("elegy", "march", "waltz")
-RING = [("add", "ada", ("elegy", "march")), ("add", "bob", ("march", "waltz")), ("add", "cyd", ("waltz", "elegy"))]
 FULL = [("add", name, ("march",)) for name in SET_NAMES[:8]]
-
-
-def told(editor):
-    """All that an editor tells."""
-    return (
-        editor.names(), editor.sets(), editor.system(), editor.answer(), editor.journal(), editor.records(),
-    )
-
-
-def made(names, commands):
-    editor = Editor(names)
-    for command in commands:
-        editor.act(command)
-    return editor
-
-
-def editor_of(system, sets=SET_NAMES, names=NAMES):
-    """An editor with this system."""
-    names = names[:system[0]]
-    return made(names, [("add", sets[at], tuple(names[x] for x in chosen)) for at, chosen in enumerate(system[1])])
-
-
-def named(editor, word, value):
-    """The answer with names in place of the places."""
-    names, sets = editor.names(), editor.sets()
-    if word == "row":
-        return "row", tuple(names[x] for x in value)
-    (x, y), steps = value
-    return "chain", ((names[x], names[y]), tuple((sets[at][0], (names[x], names[y])) for at, (x, y) in steps))
 
 
 class EditorChecks(unittest.TestCase):
@@ -326,21 +296,12 @@ class Answers(EditorChecks):
             plain = Plain(editor.names())
             plain.done = list(editor.journal())
             answer = editor.answer()
-            for other in spoiled(answer) + self.renamed_once(answer, [*editor.names(), *SET_NAMES, "zz", ""]):
+            for other in spoiled(answer) + renamed_once(answer, [*editor.names(), *SET_NAMES, "zz", ""]):
                 found = editor.accepts(other)
                 self.assertIs(type(found), bool)
                 self.assertIs(found, plain.accepts(other), other)
                 both[found] += 1
         self.assertGreater(min(both.values()), 3)
-
-    def renamed_once(self, value, names):
-        """The value with another name at one place."""
-        if type(value) is str:
-            return names
-        return [
-            value[:at] + (other,) + value[at + 1:]
-            for at in range(len(value)) for other in self.renamed_once(value[at], names)
-        ]
 
     def test_names_and_not_places(self):
         editor = made(THREE, RING[:2])

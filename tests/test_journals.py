@@ -7,9 +7,9 @@ from random import Random
 from kepttogether.editor import Editor
 from kepttogether.errors import BadValue, NotPossible, TogetherError, TooLarge
 from kepttogether.journals import are_right, replayed
+from acting import RING, THREE, made, named, renamed_once, told
 from editing import NAMES, SET_NAMES, Plain, are_right_by_words, drawn_commands, possible_commands
 from support import keeping_rows, rows, spoiled
-from test_editor import RING, THREE, made, named, told
 
 
 class Replaying(unittest.TestCase):
@@ -110,21 +110,13 @@ class Records(unittest.TestCase):
         ]:
             records = made(names, journal).records()
             changed = spoiled(records)
-            for other in changed[::1 if len(changed) < 6000 else 3] + self.renamed_once(records, [*names, "q", "zz"]):
+            for other in changed[::1 if len(changed) < 6000 else 3] + renamed_once(records, [*names, "q", "zz"]):
                 found = are_right(names, other)
                 self.assertIs(type(found), bool)
                 self.assertIs(found, are_right_by_words(names, other), (names, other))
                 both[found] += 1
         # Some changed records are right still: a command with its elements in another sequence, or another row.
         self.assertGreater(min(both.values()), 10)
-
-    def renamed_once(self, value, names):
-        if type(value) is str:
-            return names
-        return [
-            value[:at] + (other,) + value[at + 1:]
-            for at in range(len(value)) for other in self.renamed_once(value[at], names)
-        ]
 
     def test_records_can_have_other_rows_and_chains(self):
         draw, met = Random("other answers"), 0
